@@ -1,0 +1,1 @@
+"""Meanpace: meetings that wait for one another, and their pace."""
