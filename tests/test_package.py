@@ -20,6 +20,8 @@ BARRED = {
     "hash", "id", "dir", "__import__", "__builtins__",
 }
 
+LISTED = {"__init__.py", "errors.py", "webs.py", "rings.py", "paces.py", "settling.py"}
+
 
 def sources():
     """The path, the text and the tree of each file of the package."""
@@ -33,7 +35,7 @@ def sources():
 class PackageTest(unittest.TestCase):
     def test_the_package_is_there(self):
         names = {path.name for path, _, _ in sources()}
-        self.assertLessEqual({"__init__.py", "errors.py", "webs.py"}, names)
+        self.assertLessEqual(LISTED, names)
 
     def test_the_folder_holds_only_files_of_the_program(self):
         for path in FOLDER.rglob("*"):
